@@ -66,7 +66,7 @@ func TestHoldsAtTheLastPlaces(t *testing.T) {
 		{One(Next, Word(End)), [3]bool{false, false, false}},
 	} {
 		for n, want := range c.holds {
-			if got := c.f.Holds([]string{"a", "a"}[:n]); got != want {
+			if got := NewWalk([]*Formula{c.f}).Holds([]string{"a", "a"}[:n]); got != want {
 				t.Errorf("P4: %s of %d events: %v, want %v", c.f.Text(), n, got, want)
 			}
 		}

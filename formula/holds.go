@@ -7,28 +7,25 @@ type step struct {
 	left, right int
 }
 
-// place is a place of a trace, with what holds there and at the one behind it, by step.
-type place struct {
-	inside   bool // not behind all events
-	name     string
-	moreToGo bool // the next place is inside, too
-	here     []bool
-	next     []bool
+// Place is all that formulas can tell of a place of a trace: bit i is whether their step i holds there; the bit above those of the steps is whether the place is inside, not behind all events.
+type Place uint32
+
+func (p Place) has(i int) bool { return p>>i&1 == 1 }
+
+// Walk goes through traces from behind all events to the front: what holds at a place hangs on its event and on the place behind it, and on nothing further off.
+type Walk struct {
+	steps []step
+	whole Place // the steps that are the formulas themselves, not their parts
 }
 
-// Holds tells whether the formula holds at the trace's first place. It goes from behind all events to the front, so that the time it takes grows with the trace's length and no more.
-func (f *Formula) Holds(trace []string) bool {
-	steps := appendSteps(nil, f)
-	p := place{here: make([]bool, len(steps)), next: make([]bool, len(steps))}
-	p.fill(steps)
-	for i := len(trace) - 1; i >= 0; i-- {
-		p.moreToGo = p.inside
-		p.inside = true
-		p.name = trace[i]
-		p.here, p.next = p.next, p.here
-		p.fill(steps)
+// NewWalk is for formulas of at most 31 nodes together: a Place has no room for more.
+func NewWalk(formulas []*Formula) Walk {
+	var w Walk
+	for _, f := range formulas {
+		w.steps = appendSteps(w.steps, f)
+		w.whole |= 1 << (len(w.steps) - 1)
 	}
-	return p.here[len(steps)-1]
+	return w
 }
 
 // appendSteps puts the formula behind all its parts.
@@ -45,46 +42,81 @@ func appendSteps(steps []step, f *Formula) []step {
 	return append(steps, s)
 }
 
-func (p *place) fill(steps []step) {
-	for i, s := range steps {
-		p.here[i] = p.holds(i, s)
+// Behind gives the place behind all events.
+func (w Walk) Behind() Place { return w.fill(look{}) }
+
+// Ahead gives the place of an event that has another place behind it.
+func (w Walk) Ahead(next Place, event string) Place {
+	return w.fill(look{inside: true, event: event, moreToGo: next.has(len(w.steps)), next: next})
+}
+
+// AllHold tells whether every formula holds at the place.
+func (w Walk) AllHold(p Place) bool { return p&w.whole == w.whole }
+
+// Holds tells whether every formula holds at the trace's first place.
+func (w Walk) Holds(trace []string) bool {
+	p := w.Behind()
+	for i := len(trace) - 1; i >= 0; i-- {
+		p = w.Ahead(p, trace[i])
 	}
+	return w.AllHold(p)
+}
+
+func (w Walk) fill(l look) Place {
+	for i, s := range w.steps {
+		if l.holds(i, s) {
+			l.here |= 1 << i
+		}
+	}
+	if l.inside {
+		l.here |= 1 << len(w.steps)
+	}
+	return l.here
+}
+
+// look is what steps look at to tell whether they hold at a place.
+type look struct {
+	inside   bool
+	event    string
+	moreToGo bool // the next place is inside, too
+	next     Place
+	here     Place // filled as far as the steps have been asked
 }
 
 // holds is asked of the steps in their order: it looks up the parts of step i.
-func (p *place) holds(i int, s step) bool {
+func (l *look) holds(i int, s step) bool {
 	switch s.kind {
 	case Act:
-		return p.inside && p.name == s.name
+		return l.inside && l.event == s.name
 	case True:
 		return true
 	case False:
 		return false
 	case End:
-		return !p.inside
+		return !l.inside
 	case Not:
-		return !p.here[s.left]
+		return !l.here.has(s.left)
 	case And:
-		return p.here[s.left] && p.here[s.right]
+		return l.here.has(s.left) && l.here.has(s.right)
 	case Or:
-		return p.here[s.left] || p.here[s.right]
+		return l.here.has(s.left) || l.here.has(s.right)
 	case Implies:
-		return !p.here[s.left] || p.here[s.right]
+		return !l.here.has(s.left) || l.here.has(s.right)
 	}
-	return p.holdsOnward(i, s)
+	return l.holdsOnward(i, s)
 }
 
 // holdsOnward is for the operators that look at later places. F, G and U go by what holds here and by whether they hold at the next place; behind all events they have no place to look at.
-func (p *place) holdsOnward(i int, s step) bool {
+func (l *look) holdsOnward(i int, s step) bool {
 	switch s.kind {
 	case Next:
-		return p.moreToGo && p.next[s.left]
+		return l.moreToGo && l.next.has(s.left)
 	case WeakNext:
-		return !p.moreToGo || p.next[s.left]
+		return !l.moreToGo || l.next.has(s.left)
 	case Finally:
-		return p.inside && (p.here[s.left] || p.next[i])
+		return l.inside && (l.here.has(s.left) || l.next.has(i))
 	case Globally:
-		return !p.inside || p.here[s.left] && p.next[i]
+		return !l.inside || l.here.has(s.left) && l.next.has(i)
 	}
-	return p.inside && (p.here[s.right] || p.here[s.left] && p.next[i])
+	return l.inside && (l.here.has(s.right) || l.here.has(s.left) && l.next.has(i))
 }

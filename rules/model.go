@@ -69,10 +69,11 @@ func buildCall(c *callSource) Rule {
 	return Rule{c.word.text, texts(c.args), t.Formula(acts[0], acts[1], times)}
 }
 
+// texts gives copies: a piece of the model's text would keep the whole of it in memory.
 func texts(tokens []token) []string {
 	var out []string
 	for _, t := range tokens {
-		out = append(out, t.text)
+		out = append(out, strings.Clone(t.text))
 	}
 	return out
 }
@@ -113,11 +114,13 @@ func (m Model) Knows(trace []string) bool {
 }
 
 // Keeps tells whether all rules hold of the trace.
-func (m Model) Keeps(trace []string) bool {
+func (m Model) Keeps(trace []string) bool { return m.Walk().Holds(trace) }
+
+// Walk goes by the formulas of all rules. (The limit of a model's nodes is far below that of a walk.)
+func (m Model) Walk() formula.Walk {
+	var all []*formula.Formula
 	for _, r := range m.Rules {
-		if !r.Formula.Holds(trace) {
-			return false
-		}
+		all = append(all, r.Formula)
 	}
-	return true
+	return formula.NewWalk(all)
 }

@@ -1,6 +1,10 @@
 package rules
 
-import "strings"
+import (
+	"strings"
+
+	"sentry/api"
+)
 
 // kind is the kind of a token.
 type kind int
@@ -116,4 +120,10 @@ func wordKind(word string) kind {
 		}
 	}
 	return name
+}
+
+// IsName tells whether the text can name an activity.
+func IsName(text string) bool {
+	n := len(text)
+	return 1 <= n && n <= api.MaxName && lettersEnd(text) == n && wordKind(text) == name
 }

@@ -54,6 +54,9 @@ func checkWrong(t *testing.T, cases []wrong) {
 		if ok, e := Holds(c.model, []string{"none"}); ok || e != c.e {
 			t.Errorf("P4: Holds(%.80q) = %v, %d, want %d", c.model, ok, e, c.e)
 		}
+		if g, e := Compile(c.model); !isZero(g) || e != c.e {
+			t.Errorf("P5: Compile(%.80q) = %v, %d, want %d", c.model, g, e, c.e)
+		}
 	}
 }
 

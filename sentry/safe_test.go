@@ -22,6 +22,10 @@ func checkSafe(t *testing.T, model string) {
 	if f != e || e != api.OK && ok {
 		t.Errorf("P1: Holds(%.80q) = %v, %d, and Print %d", model, ok, f, e)
 	}
+	g, f := Compile(model)
+	if f != e && (e != api.OK || f != api.ErrBig) || (f != api.OK) != isZero(g) {
+		t.Errorf("P1: Compile(%.80q) = %v, %d, and Print %d", model, g, f, e)
+	}
 	if e == api.OK {
 		if again, _, e := Print(s); again != s || e != api.OK {
 			t.Errorf("P3: Print(%q) = %q, %d", s, again, e)

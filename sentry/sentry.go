@@ -3,7 +3,9 @@ package sentry
 
 import (
 	"sentry/api"
+	"sentry/compile"
 	"sentry/rules"
+	"sentry/table"
 )
 
 // Print reads a model and writes it again; where a fault lies (P3).
@@ -28,13 +30,34 @@ func Holds(model string, trace []string) (bool, api.Errno) {
 }
 
 // Compile makes a model's table (P5).
-func Compile(model string) (api.Table, api.Errno) { return api.Table{}, api.OK }
+func Compile(model string) (api.Table, api.Errno) {
+	m, fault := rules.Read(model)
+	if fault.Error != api.OK {
+		return api.Table{}, fault.Error
+	}
+	t, ok := compile.Table(m)
+	if !ok {
+		return api.Table{}, api.ErrBig
+	}
+	return t, api.OK
+}
 
 // Encode writes a table (P6).
-func Encode(t api.Table) (string, api.Errno) { return "", api.OK }
+func Encode(t api.Table) (string, api.Errno) {
+	if !table.Right(t) {
+		return "", api.ErrTable
+	}
+	return table.Bytes(t), api.OK
+}
 
 // Decode reads a table (P7).
-func Decode(b string) (api.Table, api.Errno) { return api.Table{}, api.OK }
+func Decode(b string) (api.Table, api.Errno) {
+	t, ok := table.Read(b)
+	if !ok {
+		return api.Table{}, api.ErrTable
+	}
+	return t, api.OK
+}
 
 // Desk watches cases.
 type Desk struct{}
