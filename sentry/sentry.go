@@ -58,27 +58,3 @@ func Decode(b string) (api.Table, api.Errno) {
 	}
 	return t, api.OK
 }
-
-// Desk watches cases.
-type Desk struct{}
-
-// Open makes a desk of a table's bytes (P8).
-func Open(b string) (*Desk, api.Errno) { return nil, api.OK }
-
-// Start begins a case (P9).
-func (d *Desk) Start(id string) api.Errno { return api.OK }
-
-// Event brings an event of a case (P10).
-func (d *Desk) Event(id string, act string) api.Errno { return api.OK }
-
-// Options tells which events a case may have now (P11).
-func (d *Desk) Options(id string) ([]string, api.Errno) { return nil, api.OK }
-
-// Tell tells how a case stands (P12).
-func (d *Desk) Tell(id string) (api.State, api.Errno) { return api.State{}, api.OK }
-
-// End ends a case (P13).
-func (d *Desk) End(id string) api.Errno { return api.OK }
-
-// Cases tells the cases that are going on, rising (P14).
-func (d *Desk) Cases() []string { return nil }
