@@ -42,9 +42,7 @@ func checkWatched(t *testing.T, model string, all, behind [][]string, keeps func
 	}
 	for _, trace := range all {
 		n, ended := watch(t, b, trace)
-		if ended != keeps(trace) {
-			t.Errorf("P15: %q: the trace %q: ended %v, keeps %v", model, trace, ended, keeps(trace))
-		}
+		mustHold(t, model, trace, ended) // P15
 		if n < len(trace) && could(trace[:n+1]) || !could(trace[:n]) {
 			t.Errorf("P15: %q: the trace %q was blocked behind %d events", model, trace, n)
 		}
@@ -52,7 +50,7 @@ func checkWatched(t *testing.T, model string, all, behind [][]string, keeps func
 }
 
 func TestDesksLetComeWhatKeepsTheModel(t *testing.T) {
-	leaves := []string{"a", "b", "true", "end"}
+	leaves := []string{"a", "b", "true", "false", "end"}
 	all, behind := traces("ab", 4), traces("ab", 5)
 	for _, some := range trees(4, leaves, []string{"!", "X", "N", "F", "G"}, []string{"->", "|", "&", "U"}) {
 		for _, f := range some {
